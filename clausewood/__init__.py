@@ -1,0 +1,1 @@
+"""Clausewood: sentences taken apart by the rules of a small grammar."""
