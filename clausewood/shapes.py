@@ -1,4 +1,4 @@
-"""The shapes of trees: rule, words, cut and height of a tree, and the parting of two.
+"""The shapes of trees: rule, parts, words, cut and height of a tree, and the parting of two.
 
 The walks go by loops: a tree may lean all to one side, and a loop asks for no depth of calls.
 """
@@ -14,18 +14,21 @@ def rule_of(tree):
     return (tree[0], tree[1][0], tree[2][0])
 
 
-def words_of(tree):
-    words = []
+def parts_of(tree):
+    parts = []
     waiting = [tree]
     while waiting:
         part = waiting.pop()
-        if is_leaf(part):
-            words.append(part[1])
-        else:
+        parts.append(part)
+        if not is_leaf(part):
             # What is put in last is taken first, so the left part goes in behind the right one.
             waiting.append(part[2])
             waiting.append(part[1])
-    return words
+    return parts
+
+
+def words_of(tree):
+    return [part[1] for part in parts_of(tree) if is_leaf(part)]
 
 
 def cut_of(tree):

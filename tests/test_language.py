@@ -66,8 +66,12 @@ class Language(unittest.TestCase):
             self.assertIn(type(node).__name__, NODES, where)
             if isinstance(node, ast.Constant):
                 self.assertTrue(node.value is None or isinstance(node.value, (int, str)), where)
+                self.assertNotIn("%", str(node.value), where)
+            if isinstance(node, ast.FormattedValue):
+                self.assertIsInstance(node.value, ast.Name, where)
             if isinstance(node, ast.Assign):
                 self.assertEqual(len(node.targets), 1, where)
+                self.assertNotIsInstance(node.targets[0], (ast.Tuple, ast.List), where)
             if isinstance(node, (ast.For, ast.While, ast.Try)):
                 self.assertFalse(not isinstance(node, ast.Try) and node.orelse, where)
                 self.assertFalse(isinstance(node, ast.Try) and node.finalbody, where)

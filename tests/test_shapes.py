@@ -1,60 +1,14 @@
 import unittest
 
-from clausewood.shapes import cut_of, height, is_leaf, made_alike, parting, rule_of, words_of
+from clausewood.shapes import cut_of, height, is_leaf, made_alike, parting, parts_of, rule_of, words_of
+from helpers import (
+    even, every_tree, join, leaning_left, leaning_right, plain_cut, plain_rule, plain_words, some_words,
+)
+from helpers import leaf as a
 
 DOG = ("N", "dog")
 RUNS = ("V", "runs")
 SENTENCE = ("S", DOG, RUNS)
-
-
-def a(word):
-    return ("A", word)
-
-
-def join(left, right):
-    return ("A", left, right)
-
-
-def some_words(many):
-    letters = "abcdefghij"
-    return [letters[at // 100 % 10] + letters[at // 10 % 10] + letters[at % 10] for at in range(many)]
-
-
-def leaning_left(words):
-    tree = a(words[0])
-    for word in words[1:]:
-        tree = join(tree, a(word))
-    return tree
-
-
-def leaning_right(words):
-    tree = a(words[-1])
-    for word in reversed(words[:-1]):
-        tree = join(a(word), tree)
-    return tree
-
-
-def even(words):
-    if len(words) == 1:
-        return a(words[0])
-    middle = len(words) // 2
-    return join(even(words[:middle]), even(words[middle:]))
-
-
-def every_tree(many, kinds, words):
-    """All trees with so many words, of all kinds and words given."""
-    if many == 1:
-        return [(kind, word) for kind in kinds for word in words]
-    found = []
-    for cut in range(1, many):
-        for left in every_tree(cut, kinds, words):
-            for right in every_tree(many - cut, kinds, words):
-                found.extend([(kind, left, right) for kind in kinds])
-    return found
-
-
-def plain_words(tree):
-    return [tree[1]] if len(tree) == 2 else plain_words(tree[1]) + plain_words(tree[2])
 
 
 def plain_height(tree):
@@ -70,9 +24,7 @@ def parts_by_path(tree, path=()):
 
 
 def plain_top(tree):
-    if len(tree) == 2:
-        return (tree, 0)
-    return ((tree[0], tree[1][0], tree[2][0]), len(plain_words(tree[1])))
+    return (plain_rule(tree), plain_cut(tree))
 
 
 def plain_parting(one, other):
@@ -144,6 +96,13 @@ class Tops(unittest.TestCase):
         self.assertEqual(cut_of(SENTENCE), 1)
         self.assertEqual(cut_of(leaning_left(some_words(100))), 99)
         self.assertEqual(cut_of(leaning_right(some_words(100))), 1)
+
+    def test_parts_are_the_tree_and_all_parts_of_its_left_and_right_part(self):
+        self.assertEqual(parts_of(DOG), [DOG])
+        self.assertEqual(parts_of(SENTENCE), [SENTENCE, DOG, RUNS])
+        tree = join(join(a("x"), a("y")), a("x"))
+        self.assertEqual(parts_of(tree), [tree, tree[1], a("x"), a("y"), a("x")])
+        self.assertEqual(len(parts_of(leaning_left(some_words(100)))), 199)
 
     def test_leaves(self):
         self.assertIs(is_leaf(DOG), True)
